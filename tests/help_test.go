@@ -121,3 +121,98 @@ func someExprs() []impl.Expr {
 	}
 	return list
 }
+
+func let(s string, e impl.Expr) impl.Step {
+	return impl.Step{Kind: impl.StepLet, Name: s, Expr: e}
+}
+
+func set(s string, e impl.Expr) impl.Step {
+	return impl.Step{Kind: impl.StepSet, Name: s, Expr: e}
+}
+
+// ask is a StepCall, a StepGo or a StepChild.
+func ask(kind int, s, what string, e impl.Expr) impl.Step {
+	return impl.Step{Kind: kind, Name: s, What: what, Expr: e}
+}
+
+func join(s, what string) impl.Step {
+	return impl.Step{Kind: impl.StepJoin, Name: s, What: what}
+}
+
+func wait(s, what string) impl.Step {
+	return impl.Step{Kind: impl.StepWait, Name: s, What: what}
+}
+
+// bare is a step that has an expression alone.
+func bare(kind int, e impl.Expr) impl.Step {
+	return impl.Step{Kind: kind, Expr: e}
+}
+
+func done(e impl.Expr) impl.Step {
+	return bare(impl.StepDone, e)
+}
+
+func branch(e impl.Expr, body, orElse []impl.Step) impl.Step {
+	return impl.Step{Kind: impl.StepIf, Expr: e, Body: body, Else: orElse}
+}
+
+func loop(e impl.Expr, body ...impl.Step) impl.Step {
+	return impl.Step{Kind: impl.StepWhile, Expr: e, Body: body}
+}
+
+func steps(list ...impl.Step) []impl.Step {
+	return list
+}
+
+func prog(list ...impl.Step) impl.Prog {
+	return impl.Prog{Name: "one", Steps: list}
+}
+
+func sameStep(a, b impl.Step) bool {
+	return a.Kind == b.Kind && a.Name == b.Name && a.What == b.What && sameExpr(a.Expr, b.Expr) &&
+		slices.EqualFunc(a.Body, b.Body, sameStep) && slices.EqualFunc(a.Else, b.Else, sameStep)
+}
+
+func sameProg(a, b impl.Prog) bool {
+	return a.Name == b.Name && slices.EqualFunc(a.Steps, b.Steps, sameStep)
+}
+
+func noProg(p impl.Prog) bool {
+	return sameProg(p, impl.Prog{})
+}
+
+// getProg reads a program that must be one.
+func getProg(t *testing.T, s string) impl.Prog {
+	t.Helper()
+	p, ok := impl.ProgGet(s)
+	if !ok {
+		t.Fatalf("ProgGet(%q) is false", s)
+	}
+	return p
+}
+
+// countSteps and depthOf are apart from the program's own way.
+func countSteps(list []impl.Step) int {
+	n := 0
+	for len(list) > 0 {
+		var within []impl.Step
+		for _, s := range list {
+			n++
+			within = slices.Concat(within, s.Body, s.Else)
+		}
+		list = within
+	}
+	return n
+}
+
+func depthOf(list []impl.Step) int {
+	depth := 0
+	for len(list) > 0 {
+		var within []impl.Step
+		for _, s := range list {
+			within = slices.Concat(within, s.Body, s.Else)
+		}
+		depth, list = depth+1, within
+	}
+	return depth
+}
