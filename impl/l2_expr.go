@@ -253,6 +253,11 @@ func ExprEval(e Expr, vars []Pair) (Value, bool) {
 	if !ok || !ExprOk(e) {
 		return Value{}, false
 	}
+	return exprBy(e, names)
+}
+
+// exprBy is what an expression that is ok is by names; false if it cannot be.
+func exprBy(e Expr, names map[string]Value) (Value, bool) {
 	c, err := exprMake(e)(names)
 	var cannot exprError
 	if errors.As(err, &cannot) {
