@@ -2,6 +2,7 @@ package tests
 
 import (
 	"fmt"
+	"math"
 	"slices"
 	"strings"
 	"testing"
@@ -214,44 +215,101 @@ func TestExecOfWrongPrograms(t *testing.T) {
 	}
 }
 
-func TestExecWants(t *testing.T) {
-	cmds := []impl.Cmd{cmd(impl.CmdCall, "f", num(1)), cmd(impl.CmdTimer, "", num(1)), cmd(impl.CmdChild, "f", num(1)), cmd(impl.CmdDone, "", num(1)), cmd(impl.CmdFail, "", num(1)), cmd(impl.CmdAgain, "", num(1)), {}, cmd(4, "up", num(1))}
-	wants := func(on string) []impl.Came {
-		var list []impl.Came
-		for _, c := range append(slices.Concat(someCame(), wrongCame()), signal("up", num(1)), signal("upp", num(1))) {
-			if impl.ExecWants(impl.Out{Status: impl.OutWaits, On: on, Cmds: cmds}, c) {
-				list = append(list, c)
-			}
-			for _, status := range []int{0, -1, impl.OutDone, impl.OutFail, impl.OutAgain, 5, 100} {
-				if impl.ExecWants(impl.Out{Status: status, On: on, Cmds: cmds}, c) {
-					t.Errorf("%v is wanted behind an end (%d)", c, status)
+// wantCmds is something of each kind that is asked for, each end, and what is
+// no kind at all.
+func wantCmds() []impl.Cmd {
+	return []impl.Cmd{cmd(impl.CmdCall, "f", num(1)), cmd(impl.CmdTimer, "", num(1)), cmd(impl.CmdChild, "f", num(1)), cmd(impl.CmdDone, "", num(1)), cmd(impl.CmdFail, "", num(1)), cmd(impl.CmdAgain, "", num(1)), {}, cmd(-1, "up", num(1)), cmd(7, "up", num(1))}
+}
+
+// anyCame is things of all kinds, places, names and values, whether ok or not.
+func anyCame() []impl.Came {
+	list := slices.Concat(someCame(), wrongCame())
+	for _, kind := range []int{-1, 0, impl.CameAnswer, impl.CameFire, impl.CameChild, impl.CameSignal, 5} {
+		for _, place := range []int{math.MinInt, -1, 0, 1, 2, 3, 4, 5, 6, 7, 8, 9, 39, 40, 41, math.MaxInt} {
+			for _, s := range []string{"", "up", "upp", "let", "1", "0", " up"} {
+				for _, v := range []impl.Value{{}, num(1), {Kind: -1}} {
+					list = append(list, impl.Came{Kind: kind, Place: place, Name: s, Ok: true, Value: v}, impl.Came{Kind: kind, Place: place, Name: s, Value: v})
 				}
 			}
 		}
-		return list
 	}
-	only := func(on string, so func(c impl.Came) bool) {
-		var want []impl.Came
-		for _, c := range append(someCame(), signal("up", num(1)), signal("upp", num(1))) {
-			if so(c) {
-				want = append(want, c)
+	return list
+}
+
+// checkWants looks whether just those of anyCame that are so are wanted, and
+// none of them behind an end.
+func checkWants(t *testing.T, on string, cmds []impl.Cmd, so func(c impl.Came) bool) {
+	t.Helper()
+	for _, c := range anyCame() {
+		if got := impl.ExecWants(impl.Out{Status: impl.OutWaits, On: on, Cmds: cmds}, c); got != so(c) {
+			t.Errorf("%q: of %v it is %v", on, c, got)
+		}
+		for _, status := range []int{0, -1, impl.OutDone, impl.OutFail, impl.OutAgain, 5, 100} {
+			if impl.ExecWants(impl.Out{Status: status, On: on, Cmds: cmds}, c) {
+				t.Errorf("%q: %v is wanted behind an end (%d)", on, c, status)
 			}
 		}
-		if got := wants(on); len(want) == 0 || !slices.Equal(got, want) {
-			t.Errorf("%s: %v is wanted, not %v", on, got, want)
-		}
 	}
-	only("place 0", func(c impl.Came) bool { return c.Kind == impl.CameAnswer && c.Place == 0 })
-	only("place 1", func(c impl.Came) bool { return c.Kind == impl.CameFire && c.Place == 1 })
-	only("place 2", func(c impl.Came) bool { return c.Kind == impl.CameChild && c.Place == 2 })
-	only("signal up", func(c impl.Came) bool { return c.Name == "up" })
-	only("signal abcdefghij", func(c impl.Came) bool { return c.Name == "abcdefghij" })
-	for _, on := range []string{"", "place", "place ", "place 3", "place 4", "place 5", "place 6", "place 7", "place 8", "place 39", "place 40", "place -1", "place 00", "place 01", " place 0", "place 0 ", "place  0", "place 0x", "place a", "Place 0", "0", "place 99999999999999999999", "places 0", "signal", "signal ", "signal down", "signal let", "signal 1", " signal up", "signal up ", "signal  up", "signals up", "up", "Signal up", "place up", "signal 0", "place 0\n", "timer 1", "place 0 signal up"} {
-		if got := wants(on); len(got) != 0 {
-			t.Errorf("%q: %v is wanted", on, got)
-		}
+}
+
+func TestExecWants(t *testing.T) {
+	at := func(kind, place int) func(c impl.Came) bool {
+		return func(c impl.Came) bool { return c.Kind == kind && c.Place == place }
 	}
-	if impl.ExecWants(impl.Out{}, impl.Came{}) || impl.ExecWants(impl.Out{Status: impl.OutWaits}, impl.Came{}) || impl.ExecWants(impl.Out{Status: impl.OutWaits, On: "place 0"}, answer(0, num(1))) || impl.ExecWants(impl.Out{Status: impl.OutWaits, On: "signal "}, signal("", num(1))) {
+	checkWants(t, "place 0", wantCmds(), at(impl.CameAnswer, 0))
+	checkWants(t, "place 1", wantCmds(), at(impl.CameFire, 1))
+	checkWants(t, "place 2", wantCmds(), at(impl.CameChild, 2))
+	many := slices.Repeat(wantCmds()[1:2], impl.CmdMax+1)
+	checkWants(t, "place 39", many, at(impl.CameFire, 39))
+	checkWants(t, "place 40", many, at(impl.CameFire, 40))
+	for _, s := range []string{"up", "upp", "abcdefghij", "let", "1", "", " up"} {
+		checkWants(t, "signal "+s, wantCmds(), func(c impl.Came) bool { return c.Kind == impl.CameSignal && c.Name == s })
+		checkWants(t, "signal "+s, nil, func(c impl.Came) bool { return c.Kind == impl.CameSignal && c.Name == s })
+	}
+}
+
+func TestNothingIsWantedElse(t *testing.T) {
+	never := func(impl.Came) bool { return false }
+	for _, on := range []string{"", "place", "place ", "place 3", "place 4", "place 5", "place 6", "place 7", "place 8", "place 9", "place 39", "place 40", "place -1", "place 00", "place 01", " place 0", "place 0 ", "place  0", "place 0x", "place a", "Place 0", "0", "place 9223372036854775807", "place -9223372036854775808", "place 99999999999999999999", "places 0", "signal", "signal down", " signal up", "signal up ", "signals up", "up", "Signal up", "place up", "place 0\n", "timer 1", "place 0 signal up"} {
+		checkWants(t, on, wantCmds(), never)
+	}
+	checkWants(t, "place 0", nil, never)
+	checkWants(t, "place 41", slices.Repeat(wantCmds()[:1], impl.CmdMax+1), never)
+	if impl.ExecWants(impl.Out{}, impl.Came{}) || impl.ExecWants(impl.Out{Status: impl.OutWaits}, impl.Came{}) {
 		t.Error("nothing is wanted")
+	}
+}
+
+// What a program waits for is told by its place and kind, or by its name: all
+// else of it may be anything.
+func TestWantsIsByOnAlone(t *testing.T) {
+	waits := 0
+	eachGiven(func(g given, o impl.Out) {
+		if o.Status != impl.OutWaits {
+			return
+		}
+		waits++
+		c := wanted(o, num(2))
+		for _, v := range []impl.Value{{}, num(1), {Kind: -1}, text("\"")} {
+			for _, ok := range []bool{true, false} {
+				like, other, placed := c, c, c
+				like.Ok, like.Value = ok, v
+				other.Ok, other.Value, other.Kind = ok, v, c.Kind%4+1
+				placed.Ok, placed.Value = ok, v
+				if c.Kind == impl.CameSignal {
+					like.Place = 1
+					placed.Name += "x"
+				} else {
+					like.Name = "up"
+					placed.Place++
+				}
+				if !impl.ExecWants(o, like) || impl.ExecWants(o, other) || impl.ExecWants(o, placed) {
+					t.Errorf("%s is %s: of %v it is not so, or of %v, %v", g.tell(), shown(o), like, other, placed)
+				}
+			}
+		}
+	})
+	if waits < 500 {
+		t.Errorf("only %d wait", waits)
 	}
 }
