@@ -6,7 +6,6 @@ import (
 	"slices"
 	"sync"
 	"testing"
-	"time"
 
 	"loop.example/backstitch/impl"
 )
@@ -284,11 +283,5 @@ func TestEnginesSideBySide(t *testing.T) {
 		})
 	}
 	all.Wait()
-	for range 200 {
-		if runtime.NumGoroutine() <= goroutines {
-			return
-		}
-		time.Sleep(5 * time.Millisecond)
-	}
-	t.Errorf("%d goroutines are left", runtime.NumGoroutine()-goroutines)
+	checkNoneIsLeft(t, goroutines)
 }

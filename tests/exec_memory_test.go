@@ -171,12 +171,17 @@ func TestNoGoroutineIsLeft(t *testing.T) {
 		impl.Exec(g.prog, impl.Value{Kind: 9}, nil)
 		impl.Exec(g.prog, g.in, wrongCame()[:1])
 	}
-	// One that has done all it does may take a while until it is counted no more.
+	checkNoneIsLeft(t, before)
+}
+
+// checkNoneIsLeft says that there are no more goroutines than so many. One that has done all it does may take a while until it is counted no more.
+func checkNoneIsLeft(t *testing.T, goroutines int) {
+	t.Helper()
 	for range 200 {
-		if runtime.NumGoroutine() <= before {
+		if runtime.NumGoroutine() <= goroutines {
 			return
 		}
 		time.Sleep(5 * time.Millisecond)
 	}
-	t.Errorf("%d goroutines are left", runtime.NumGoroutine()-before)
+	t.Errorf("%d goroutines are left", runtime.NumGoroutine()-goroutines)
 }
